@@ -1,0 +1,1 @@
+"""Deadhand: land given in layers, to the living and the unborn."""
