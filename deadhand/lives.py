@@ -22,6 +22,12 @@ def good_word(word):
     return 1 <= len(word) <= LONGEST_WORD and within(word, "a", "z") and word not in BARRED
 
 
+def want_word(word):
+    """Refuse a word that isn't well written."""
+    if not good_word(word):
+        raise NoText("a word is not well written")
+
+
 def good_number(text):
     """Whether a text is a well written number of a child."""
     return 1 <= len(text) <= LONGEST_NUMBER and within(text, "0", "9") and text[0] != "0"
@@ -76,8 +82,7 @@ class Lives:
 
     def arrive(self, word, born):
         """One without a parent in the book comes into it."""
-        if not good_word(word):
-            raise NoText("a word is not well written")
+        want_word(word)
         if self.known(word):
             raise Taken("somebody has this word already")
         self.enter(word, born)

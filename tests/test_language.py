@@ -127,6 +127,25 @@ class LanguageTest(unittest.TestCase):
                 if isinstance(node, ast.Name):
                     self.assertIn(node.id, known, f"{name}:{node.lineno}")
 
+    def test_no_local_is_called_like_an_import_or_a_class(self):
+        for name, tree in trees():
+            taken = {alias.asname or alias.name for node in tree.body if isinstance(node, ast.ImportFrom)
+                     for alias in node.names} | {node.name for node in tree.body if isinstance(node, ast.ClassDef)}
+            for node in ast.walk(tree):
+                local = isinstance(node, ast.Name) and isinstance(node.ctx, ast.Store)
+                if local or isinstance(node, ast.arg):
+                    self.assertNotIn(node.id if local else node.arg, taken, f"{name}:{node.lineno}")
+
+    def test_no_name_of_a_top_is_bound_twice(self):
+        for name, tree in trees():
+            tops = [node.name for node in tree.body if isinstance(node, (ast.FunctionDef, ast.ClassDef))]
+            for node in tree.body:
+                if isinstance(node, ast.ImportFrom):
+                    tops += [alias.asname or alias.name for alias in node.names]
+                elif isinstance(node, ast.Assign):
+                    tops += [target.id for target in node.targets]
+            self.assertEqual(sorted(tops), sorted(set(tops)), name)
+
     def test_no_name_is_a_method_and_a_value(self):
         methods, values = set(), set()
         for name, tree in trees():

@@ -3,24 +3,9 @@
 import random
 import unittest
 
-from deadhand.errors import Gone, LandError, NoPerson, NoText, Taken, TooDeep
+from deadhand.errors import Gone, NoPerson, NoText, Taken, TooDeep
 from deadhand.lives import Lives
-
-NOT_WELL_WRITTEN = [
-    "", "crown", "kids", "crown.1", "abcdefghi", "ann.0", "ann.01", "ann.100", "ann.", ".ann", "ann..1", "ann\n",
-    "ann.1\n", "ann.1.1.1.1.1.1", " ann", "Ann", "ann.x", "1",
-]
-
-
-def whole_book(lives, texts=()):
-    """All that a book tells, of its people and of other texts."""
-    people = {
-        name: (lives.known(name), lives.alive(name), lives.born_in(name), lives.died_in(name), lives.children(name),
-               lives.nearest(name), lives.never(name))
-        for name in lives.names()
-    }
-    others = [(lives.known(text), lives.alive(text)) for text in texts]
-    return (lives.names(), lives.living(), people, others)
+from helping import NOT_WELL_WRITTEN, WORDS, Model, any_name, refused_with, whole_book
 
 
 def family():
@@ -41,9 +26,7 @@ class LivesCase(unittest.TestCase):
 
     def refused_with(self, lives, kind, deed, *things):
         ahead = whole_book(lives, NOT_WELL_WRITTEN)
-        with self.assertRaises(LandError) as caught:
-            deed(*things)
-        self.assertIs(type(caught.exception), kind)
+        refused_with(self, kind, deed, *things)
         self.assertEqual(whole_book(lives, NOT_WELL_WRITTEN), ahead)
 
 
@@ -241,49 +224,6 @@ class NearestTest(LivesCase):
         self.assertIs(lives.never("ann.3"), False)
 
 
-class Model:
-    """The book as a plain list of rows, each [name, born, died], to hold the program's against."""
-
-    def __init__(self):
-        self.rows = []
-
-    def row(self, name):
-        found = [row for row in self.rows if row[0] == name]
-        return found[0] if found else None
-
-    def children(self, name):
-        return [row[0] for row in self.rows if row[0].split(".")[:-1] == name.split(".")]
-
-    def nearest(self, name):
-        pieces = name.split(".")
-        for many in range(len(pieces), 0, -1):
-            if self.row(".".join(pieces[:many])):
-                return ".".join(pieces[:many])
-        return ""
-
-    def wanted(self, kind, name):
-        """The refusal of a deed, or None."""
-        row = self.row(name)
-        if kind == "arrive":
-            return Taken if row else None
-        if not row:
-            return NoPerson
-        if row[2] is not None:
-            return Gone
-        return TooDeep if kind == "birth" and len(name.split(".")) == 6 else None
-
-    def do(self, kind, name, year):
-        if kind == "arrive":
-            self.rows.append([name, year, None])
-        elif kind == "birth":
-            child = f"{name}.{len(self.children(name)) + 1}"
-            self.rows.append([child, year, None])
-            return child
-        else:
-            self.row(name)[2] = year
-        return None
-
-
 class RandomTest(LivesCase):
 
     def check_book(self, lives, model, others):
@@ -299,11 +239,6 @@ class RandomTest(LivesCase):
             wanted = near != name and (near == "" or model.row(near)[2] is not None)
             self.assertIs(lives.never(name), wanted)
 
-    def any_name(self, chance, model):
-        start = chance.choice([row[0] for row in model.rows] + ["ann", "bob", "eve"])
-        more = "".join(f".{chance.randint(1, 4)}" for number in range(chance.choice([0, 0, 0, 1, 2])))
-        return start + more if (start + more).count(".") <= 5 else start
-
     def test_any_deeds(self):
         for seed in range(12):
             chance = random.Random(seed)
@@ -311,14 +246,15 @@ class RandomTest(LivesCase):
             for turn in range(90):
                 year += chance.randint(0, 3)
                 kind = chance.choice(["arrive", "birth", "birth", "birth", "death"])
-                name = self.any_name(chance, model) if kind != "arrive" else chance.choice(["ann", "bob", "eve"])
+                names = [row[0] for row in model.rows]
+                name = any_name(chance, names) if kind != "arrive" else chance.choice(WORDS)
                 refusal = model.wanted(kind, name)
                 deed = {"arrive": lives.arrive, "birth": lives.birth, "death": lives.death}[kind]
                 if refusal:
                     self.refused_with(lives, refusal, deed, name, year)
                 else:
                     self.assertEqual(deed(name, year), model.do(kind, name, year))
-                self.check_book(lives, model, [self.any_name(chance, model) for number in range(5)])
+                self.check_book(lives, model, [any_name(chance, names) for number in range(5)])
 
 
 if __name__ == "__main__":

@@ -7,16 +7,10 @@ from fractions import Fraction
 
 from deadhand.errors import LandError, Short
 from deadhand.shares import lowest, minus, mixed, passed, plus, put_in, share_of, taken, times
+from helping import HUGE, refused_with
 
-HUGE = 10 ** 40
 # Any texts may be names in a ledger; these are in the order of texts.
 TEXTS = ["", "\n", " ", "!", "B", "a", "ann", "ann\n", "ann.1", "ann.10", "ann.2", "anna", "b", "crown", "~"]
-
-
-def refused_with(case, kind, deed, *things):
-    with case.assertRaises(LandError) as caught:
-        deed(*things)
-    case.assertIs(type(caught.exception), kind)
 
 
 def value(share):
