@@ -64,6 +64,14 @@ class Lives:
         self.deaths = {}
         self.broods = {}
 
+    def twin(self):
+        """A book of its own that is as this one is now."""
+        other = Lives()
+        other.births = dict(self.births)
+        other.deaths = dict(self.deaths)
+        other.broods = {name: list(self.broods[name]) for name in self.broods}
+        return other
+
     def enter(self, name, year):
         """Write one who isn't in the book into it."""
         self.births[name] = year

@@ -7,15 +7,12 @@ FAILED = "failed"
 HANGS = "hangs"
 
 
-def want_named(world, name):
-    """Refuse a name that isn't well written, or whose word isn't in the book."""
-    if world.lives.nearest(name) == "":
+def nearest_named(world, name):
+    """The nearest of a name; refused is one that isn't well written, or whose word isn't in the book."""
+    found = world.lives.nearest(name)
+    if found == "":
         raise NoPerson("a name is asked for whose word is not in the book")
-
-
-def absent_stand(world, name):
-    """How a need about one who isn't in the book stands."""
-    return FAILED if world.lives.never(name) else HANGS
+    return found
 
 
 def age_stand(world, name, age):
@@ -28,9 +25,8 @@ def age_stand(world, name, age):
 def person_stand(world, atom):
     """How a need about one of the people stands."""
     kind, name = atom[0], atom[1]
-    want_named(world, name)
     if not world.lives.known(name):
-        return absent_stand(world, name)
+        return HANGS if world.lives.alive(nearest_named(world, name)) else FAILED
     if kind == "age":
         return age_stand(world, name, atom[2])
     if kind == "dead" and world.lives.alive(name):

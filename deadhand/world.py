@@ -24,6 +24,15 @@ class World:
         self.lives = Lives()
         self.happened = {}
 
+    def twin(self):
+        """A world of its own that is as this one is now."""
+        # The clock may have gone beyond what a first year can be.
+        other = World(0)
+        other.year = self.year
+        other.lives = self.lives.twin()
+        other.happened = dict(self.happened)
+        return other
+
     def pass_years(self, many):
         """So many years pass."""
         want_between(many, 1, MOST_YEARS)

@@ -14,6 +14,7 @@ FUNCTIONS = {
     "classes": """left_out(world, name); seats(world, name, age, out); waiting(world, name, age, out);
         class_stand(world, name, age, out); class_since(world, name, age, out, day)""",
     "heirs": "heirs(lives, name)",
+    "terms": "first_end(world, holder, atoms); judged(world, holder, atoms, term)",
 }
 METHODS = {
     ("lives", "Lives"): """arrive(self, word, born); birth(self, name, year); death(self, name, year);
