@@ -20,7 +20,16 @@ def members(world, name, out):
 
 def seats(world, name, age, out):
     """The members that reached the age, now or at the death."""
-    return [child for child in members(world, name, out) if age_stand(world, child, age) == MET]
+    lives, year = world.lives, world.year
+    return [child for child in members(world, name, out) if lives.age_in(child, year) >= age]
+
+
+def has_seat(world, name, age, out):
+    """Whether a member reached the age."""
+    for child in members(world, name, out):
+        if world.age(child) >= age:
+            return True
+    return False
 
 
 def waiting(world, name, age, out):
@@ -38,7 +47,7 @@ def class_stand(world, name, age, out):
     """How a class stands: met, failed or hangs."""
     if may_grow(world, name) or waiting(world, name, age, out):
         return HANGS
-    return MET if seats(world, name, age, out) else FAILED
+    return MET if has_seat(world, name, age, out) else FAILED
 
 
 def class_since(world, name, age, out, day):

@@ -59,7 +59,16 @@ class Land:
             number = self.first_open(world, number)
         return numbers
 
+    def seated(self, world):
+        """The number of the layer that sits, and a tuple of its seats."""
+        number = self.trail(world)[-1]
+        return (number, tuple(full_seats(world, self.layers[number])))
+
+    def mixed_seats(self, number, seats):
+        """The ledgers of some seats of a layer, mixed."""
+        return mixed([seat_ledger(self.layers[number], seat) for seat in seats])
+
     def sitters(self, world):
-        """The ledgers of the sitting layer's seats, mixed."""
-        layer = self.layers[self.trail(world)[-1]]
-        return mixed([seat_ledger(layer, seat) for seat in full_seats(world, layer)])
+        """The ledger of those who sit."""
+        number, seats = self.seated(world)
+        return self.mixed_seats(number, seats)

@@ -1,6 +1,6 @@
 """Layers: rows that were given, with their whole needs, their seats and the ledgers of these."""
 
-from deadhand.classes import class_since, class_stand, left_out, members, seats
+from deadhand.classes import class_since, class_stand, has_seat, left_out, members, seats
 from deadhand.lives import shortened
 from deadhand.needs import FAILED, HANGS, MET, atom_since, atom_stand, over, settled, stand, together
 from deadhand.shares import NOUGHT, passed, put_in, share_of, taken
@@ -105,16 +105,17 @@ def seat_names(world, layer):
 
 
 def full_seats(world, layer):
-    """The seats of a layer that may sit."""
+    """The seats of an open layer."""
     holder = layer.holder
     return seats(world, holder[1], holder[2], layer.out) if is_class(holder) else [holder[1]]
 
 
 def is_open(world, layer):
     """Whether a layer is open."""
-    if ended(world, layer) or stand(world, wanted(layer.holder, layer.needs)) != MET:
+    holder = layer.holder
+    if ended(world, layer) or stand(world, wanted(holder, layer.needs)) != MET:
         return False
-    return full_seats(world, layer) != []
+    return not is_class(holder) or has_seat(world, holder[1], holder[2], layer.out)
 
 
 def seat_ledger(layer, seat):

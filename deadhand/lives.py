@@ -128,6 +128,11 @@ class Lives:
         self.want_known(name)
         return self.deaths.get(name)
 
+    def age_in(self, name, year):
+        """The age of one in a year, or at the death."""
+        self.want_known(name)
+        return self.deaths.get(name, year) - self.births[name]
+
     def children(self, name):
         """The names of one's children, the eldest first."""
         self.want_known(name)

@@ -1,6 +1,6 @@
 """Sure or late: whether a row that is given now can hang for too long."""
 
-from deadhand.classes import left_out, may_grow, seats, waiting
+from deadhand.classes import has_seat, left_out, may_grow, waiting
 from deadhand.layers import LATE, is_class, left_out_of, wanted, whole_stand
 from deadhand.lives import parts
 from deadhand.needs import HANGS, atom_stand
@@ -13,11 +13,11 @@ ABOUT_PEOPLE = ("born", "dead", "age")
 def class_end(world, name, age):
     """The least year in which all who live can be dead without a class having failed."""
     out = left_out(world, name)
-    wait = waiting(world, name, age, out)
     # A child that is born now and lives on keeps a class that may grow from failing.
-    if may_grow(world, name) or seats(world, name, age, out) or not wait:
+    if may_grow(world, name) or has_seat(world, name, age, out):
         return world.year
-    return min([world.lives.born_in(child) for child in wait]) + age
+    births = [world.lives.born_in(child) for child in waiting(world, name, age, out)]
+    return min(births) + age if births else world.year
 
 
 def first_end(world, holder, atoms):

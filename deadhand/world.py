@@ -64,6 +64,4 @@ class World:
 
     def age(self, name):
         """The age of one, now or at the death."""
-        born = self.lives.born_in(name)
-        died = self.lives.died_in(name)
-        return (self.year if died is None else died) - born
+        return self.lives.age_in(name, self.year)

@@ -15,6 +15,9 @@ FUNCTIONS = {
         class_stand(world, name, age, out); class_since(world, name, age, out, day)""",
     "heirs": "heirs(lives, name)",
     "terms": "first_end(world, holder, atoms); judged(world, holder, atoms, term)",
+    "notes": "atom_text(atom); row_text(row); order_text(deed); read_atom(text); read_row(text); read_order(text)",
+    "realm": "Realm(year, term)",
+    "desk": "House(year, term); read_house(text)",
 }
 METHODS = {
     ("lives", "Lives"): """arrive(self, word, born); birth(self, name, year); death(self, name, year);
@@ -22,6 +25,13 @@ METHODS = {
         names(self); living(self); nearest(self, name); never(self, name)""",
     ("world", "World"): """pass_years(self, many); arrive(self, word, age); birth(self, name); death(self, name);
         comes(self, word); came_in(self, word); age(self, name)""",
+    ("realm", "Realm"): """arrive(self, word, age); birth(self, name); death(self, name); comes(self, word);
+        years(self, many); land(self, word, owner, rent); gift(self, word, number, giver, rows);
+        sell(self, word, number, seat, seller, buyer, num, den); drop(self, word, number, owner); purse(self, name);
+        how_many(self, word); trail(self, word); sitting(self, word); sitters(self, word); stand(self, word, number);
+        since(self, word, number); paper_of(self, word, number); owners(self, word, number);
+        shown(self, word, number); deadline(self, word, number); watch(self, word, number)""",
+    ("desk", "House"): "order(self, text); orders(self); back(self); again(self); told(self)",
 }
 
 
