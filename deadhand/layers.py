@@ -3,9 +3,10 @@
 from deadhand.classes import class_since, class_stand, has_seat, left_out, members, seats
 from deadhand.lives import shortened
 from deadhand.needs import FAILED, HANGS, MET, atom_since, atom_stand, over, settled, stand, together
-from deadhand.shares import NOUGHT, passed, put_in, share_of, taken
+from deadhand.shares import held_in, held_passed, ledger_of, put_in, taken
 
 LATE = "late"
+WHOLE = (1, 1)
 
 
 def is_class(holder):
@@ -54,7 +55,8 @@ class Layer:
         self.entered = entered
         self.paper = paper
         self.dropped = False
-        # Only ledgers that are no more as they began are kept here.
+        # Only ledgers that are no more as they began are kept here, as dicts of names and shares: some are long, and
+        # many deaths change them. None of the dicts is changed itself, so that a twin may have the same ones.
         self.ledgers = {}
         self.below = []
 
@@ -118,9 +120,14 @@ def is_open(world, layer):
     return not is_class(holder) or has_seat(world, holder[1], holder[2], layer.out)
 
 
+def held_of(layer, seat):
+    """A dict of the names and shares of a seat that is there."""
+    return layer.ledgers.get(seat, {seat: WHOLE})
+
+
 def seat_ledger(layer, seat):
     """The ledger of a seat that is there."""
-    return list(layer.ledgers.get(seat, [(seat, 1, 1)]))
+    return ledger_of(held_of(layer, seat))
 
 
 def is_own_seat(layer, name):
@@ -133,24 +140,24 @@ def is_own_seat(layer, name):
 def held_seats(layer, name):
     """The seats of a layer in which one of the book has a share."""
     first = [name] if name not in layer.ledgers and is_own_seat(layer, name) else []
-    return first + [seat for seat in layer.ledgers if share_of(layer.ledgers[seat], name) != NOUGHT]
+    return first + [seat for seat in layer.ledgers if name in layer.ledgers[seat]]
 
 
 def pass_on(layer, name, takers):
     """All that one has in a layer goes to the takers."""
     for seat in held_seats(layer, name):
-        layer.ledgers[seat] = passed(seat_ledger(layer, seat), name, takers)
+        layer.ledgers[seat] = held_passed(held_of(layer, seat), name, takers)
 
 
 def move_share(layer, seat, seller, buyer, share):
     """A share of the whole seat goes from one to another."""
     left = taken(seat_ledger(layer, seat), seller, share)
-    layer.ledgers[seat] = put_in(left, buyer, share)
+    layer.ledgers[seat] = held_in(put_in(left, buyer, share))
 
 
 def is_only_owner(layer, name):
     """Whether a layer has one holder, and the whole of that seat is a name's."""
-    return not is_class(layer.holder) and seat_ledger(layer, layer.holder[1]) == [(name, 1, 1)]
+    return not is_class(layer.holder) and held_of(layer, layer.holder[1]) == {name: WHOLE}
 
 
 def deadline_of(world, layer, term):

@@ -68,17 +68,21 @@ def taken(ledger, name, share):
     return ledger_of(held)
 
 
+def held_passed(held, name, takers):
+    """A dict of names and shares in which a name's share has gone to the takers, to each its part."""
+    after = dict(held)
+    if name not in held:
+        return after
+    # The name gives all away ahead of the taking, since it may be among the takers.
+    del after[name]
+    for taker, num, den in takers:
+        after[taker] = plus(after.get(taker, NOUGHT), times(held[name], (num, den)))
+    return after
+
+
 def passed(ledger, name, takers):
     """The ledger in which a name's share has gone to the takers, to each its part."""
-    share = share_of(ledger, name)
-    if share == NOUGHT:
-        return list(ledger)
-    held = held_in(ledger)
-    # The name gives all away ahead of the taking, since it may be among the takers.
-    held[name] = NOUGHT
-    for taker, num, den in takers:
-        held[taker] = plus(held.get(taker, NOUGHT), times(share, (num, den)))
-    return ledger_of(held)
+    return ledger_of(held_passed(held_in(ledger), name, takers))
 
 
 def mixed(ledgers):

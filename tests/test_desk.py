@@ -1,5 +1,6 @@
 """Houses: orders, back, again, told and read (points 0.1, 0.2 and 26)."""
 
+import copy
 import random
 import unittest
 
@@ -85,8 +86,9 @@ class OrderTest(HouseCase):
 
     def test_told_lists_that_are_changed(self):
         house = built()
-        ahead = whole_house(house)
+        ahead = copy.deepcopy(whole_house(house))
         house.orders().clear()
+        self.assertEqual(whole_house(house), ahead)
         house.order("birth ann.2")
         house.back()
         self.assertEqual(whole_house(house), ahead)

@@ -136,6 +136,13 @@ class NamesTest(GiftCase):
         self.check_done(row(one("bob"), [], [("born", "old.9"), ("dead", "old"), ("year", 0)]))
         self.check_done(row(one("ann")))
 
+    def test_not_well_written_is_told_ahead_of_all_else(self):
+        realm = first()
+        for bad in (row(one("ann.0")), row(kids("", 5)), row(one("bob"), [("dead", "crown")]),
+                    row(one("bob"), [], [("comes", "War")]), row(one("bob"), [("age", "ann.01", 121)])):
+            for rows in ([row(one("zoe")), bad], [row(one("old"), [("year", -1)]), bad], [bad] * 7):
+                self.refused(realm, NoText, realm.gift, "hill", 0, "bob", rows)
+
     def test_several_faults(self):
         realm = first()
         ahead = whole_realm(realm)

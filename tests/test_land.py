@@ -3,6 +3,7 @@
 import unittest
 
 from deadhand.land import Land
+from deadhand.layers import move_share
 from helping import do, grown
 from judging import kids, one
 
@@ -78,7 +79,7 @@ class LandTest(unittest.TestCase):
         self.give(world, land, 0, one("bob"))
         twin = land.twin()
         self.give(world, land, 1, one("ann"))
-        land.layers[1].ledgers["bob"] = [("ann", 1, 1)]
+        move_share(land.layers[1], "bob", "bob", "ann", (1, 1))
         land.layers[0].dropped = True
         self.assertEqual((twin.trail(world), twin.sitters(world)), ([0, 1], [("bob", 1, 1)]))
         self.assertEqual((len(twin.layers), twin.layers[0].dropped), (2, False))

@@ -231,15 +231,19 @@ class PaperTest(RealmCase):
         self.assertEqual((realm.watch("hill", 1), realm.deadline("hill", 1)), ("kept", None))
 
     def test_told_lists_that_are_changed(self):
-        realm = ruled(1800, 21, FIRST + ["birth ann", "gift hill 0 ann: to kids ann 22; to kids ann 21 when dead bob"])
-        ahead = whole_realm(realm)
+        realm = ruled(1800, 21, FIRST + [
+            "birth ann", "gift hill 0 ann: to kids ann 22; to kids ann 21 when dead bob until dead eve",
+        ])
+        # A copy, lest what is told be changed in it as well.
+        ahead = copy.deepcopy(whole_realm(realm))
         told = [realm.paper_of("hill", 1)[1], realm.paper_of("hill", 2)[1], realm.paper_of("hill", 0)[1]]
         told += [realm.trail("hill"), realm.sitters("hill"), realm.owners("hill", 1), realm.owners("hill", 0)[0][1]]
         told += [realm.owners("hill", 1)[0][1], realm.shown("hill", 2)[2], realm.shown("hill", 2)[3]]
         told += [realm.world.lives.names()]
         for things in told:
             things.append("changed")
-            things.pop(0)
+            self.assertEqual(whole_realm(realm), ahead)
+            things.clear()
             self.assertEqual(whole_realm(realm), ahead)
         rule(realm, "years 5")
         rule(realm, "death ann.1")
@@ -251,7 +255,7 @@ class PaperTest(RealmCase):
         rows = [(one("ann.1"), needs, ends)]
         numbers = realm.gift("hill", 0, "ann", rows)
         self.assertEqual((rows, needs, ends), ([(one("ann.1"), needs, ends)], [("dead", "bob")], [("comes", "war")]))
-        ahead = whole_realm(realm)
+        ahead = copy.deepcopy(whole_realm(realm))
         for things in (needs, ends, rows, numbers):
             things.clear()
         self.assertEqual(whole_realm(realm), ahead)
