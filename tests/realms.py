@@ -10,16 +10,9 @@ from deadhand.notes import read_order
 from deadhand.realm import Realm
 from deadhand.terms import judged
 from helping import Model, refused_with, whole_world
+from judging import one
 
 ODD_TEXTS = ["crown", "kids", "", "nobody", "hill", "ann.", "\n", "~ "]
-
-
-def one(name):
-    return ("one", name)
-
-
-def kids(name, age):
-    return ("kids", name, age)
 
 
 def row(holder, needs=(), ends=()):

@@ -6,7 +6,8 @@ from deadhand.errors import (
     Gone, LandError, Never, NoLand, NoLayer, NoPerson, NotWhole, NoText, OutOfBound, Shut, TooDeep,
 )
 from helping import HUGE, NOT_WELL_WRITTEN
-from realms import RealmChecks, kids, one, row, rule, ruled, whole_realm
+from judging import kids, one
+from realms import RealmChecks, row, rule, ruled, whole_realm
 
 # ann lives with ann.1 (dead) and ann.2; old is dead with old.1 alive; bob and eve live.
 FIRST = [

@@ -9,8 +9,8 @@ from deadhand.errors import (
 from deadhand.realm import Realm
 from deadhand.world import World
 from helping import HUGE, NOT_WELL_WRITTEN, grown, refused_with, whole_world
-from judging import check_story
-from realms import RealmChecks, kids, one, row, rule, ruled, whole_land, whole_layer, whole_realm
+from judging import check_story, kids, one
+from realms import RealmChecks, row, rule, ruled, whole_land, whole_layer, whole_realm
 
 FIRST = ["arrive ann 20", "arrive bob 30", "arrive eve 40", "land hill ann 12"]
 
