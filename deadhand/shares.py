@@ -75,8 +75,13 @@ def held_passed(held, name, takers):
         return after
     # The name gives all away ahead of the taking, since it may be among the takers.
     del after[name]
+    # In a large family many have the same share and take the same part, so that few sums are to be reckoned.
+    sums = {}
     for taker, num, den in takers:
-        after[taker] = plus(after.get(taker, NOUGHT), times(held[name], (num, den)))
+        key = (after.get(taker, NOUGHT), num, den)
+        if key not in sums:
+            sums[key] = plus(key[0], times(held[name], (num, den)))
+        after[taker] = sums[key]
     return after
 
 
